@@ -3,18 +3,20 @@
 Each call answers a list of whole numbers; a refusal is a list of one number below 0.
 """
 
-from spawnbed.spread import NEVER, day_of_all, spread_days
+from spawnbed.spread import NEVER, area_sizes, day_of_all, fewest_cells, free_cells, reached_by, spread_days, way_to
 
 MISSING = -2
 BARRED = -16
 ALREADY = -17
-BAD_SIZE = -22
+OUT_OF_RANGE = -22
 TOO_MANY = -28
 NOT_BEGUN = -61
 
 LONGEST_SIDE = 5
 MOST_GRAINS = 6
 MOST_BACK = 10
+MOST_ENOUGH = 3
+LATEST_DAY = 50
 
 BEGIN = 0
 # By a call's number: how many numbers stand behind it.
@@ -41,6 +43,11 @@ def days_of(bed):
     return spread_days(bed.width, bed.height, bed.blocked, bed.grains)
 
 
+def full_day_if(bed, blocked, grains):
+    """The day on which all would be run through, were these blocked and did grains lie there."""
+    return day_of_all(spread_days(bed.width, bed.height, blocked, grains), blocked)
+
+
 def without_cell(cells, cell):
     return [other for other in cells if other != cell]
 
@@ -55,7 +62,7 @@ def change(bed, blocked, grains):
 
 def begin_bed(bed, width, height):
     if width < 1 or width > LONGEST_SIDE or height < 1 or height > LONGEST_SIDE:
-        return [BAD_SIZE]
+        return [OUT_OF_RANGE]
     bed.width = width
     bed.height = height
     bed.blocked = []
@@ -64,13 +71,21 @@ def begin_bed(bed, width, height):
     return [0]
 
 
-def block_cell(bed, cell):
+def block_refusal(bed, cell):
+    """Why the cell can't be blocked; empty if it can."""
     if not has_cell(bed, cell):
         return [MISSING]
     if cell in bed.blocked:
         return [ALREADY]
     if cell in bed.grains:
         return [BARRED]
+    return []
+
+
+def block_cell(bed, cell):
+    refused = block_refusal(bed, cell)
+    if len(refused) > 0:
+        return refused
     change(bed, bed.blocked + [cell], bed.grains)
     return [len(bed.blocked)]
 
@@ -121,7 +136,7 @@ def day_of_cell(bed, cell):
 
 
 def full_day(bed):
-    return [day_of_all(days_of(bed), bed.blocked)]
+    return [full_day_if(bed, bed.blocked, bed.grains)]
 
 
 def counted(cells):
@@ -129,20 +144,86 @@ def counted(cells):
 
 
 def cells_by_day(bed, day):
+    return counted(reached_by(days_of(bed), day))
+
+
+def cells_on_day(bed, day):
     days = days_of(bed)
-    return counted([cell for cell in range(len(days)) if days[cell] != NEVER and days[cell] <= day])
+    return counted([cell for cell in range(len(days)) if days[cell] == day])
 
 
 def last_cells(bed):
-    days = days_of(bed)
-    full = day_of_all(days, bed.blocked)
-    if full == NEVER:
+    full = full_day(bed)
+    if full == [NEVER]:
+        return full
+    return cells_on_day(bed, full[0])
+
+
+def way_to_cell(bed, cell):
+    day = day_of_cell(bed, cell)
+    if day[0] < 0:
+        return day
+    return counted(way_to(bed.width, bed.height, days_of(bed), cell))
+
+
+def best_cell(bed):
+    helped = []
+    for cell in free_cells(bed.width, bed.height, bed.blocked):
+        day = full_day_if(bed, bed.blocked, bed.grains + [cell])
+        if day != NEVER:
+            helped.append((day, cell))
+    if len(helped) == 0:
         return [NEVER]
-    return counted([cell for cell in range(len(days)) if days[cell] == full])
+    soonest = min(helped)
+    return [soonest[1], soonest[0]]
 
 
-WITH_NO_NUMBER = {5: take_back, 7: full_day, 9: last_cells}
-WITH_ONE_NUMBER = {1: block_cell, 2: clear_cell, 3: lay_grain, 4: take_grain, 6: day_of_cell, 8: cells_by_day}
+def fewest_grains(bed, day):
+    if day > LATEST_DAY:
+        return [OUT_OF_RANGE]
+    found = fewest_cells(bed.width, bed.height, bed.blocked, day, MOST_ENOUGH)
+    if found is None:
+        return [NEVER]
+    return counted(found)
+
+
+def day_without(bed, cell):
+    if cell not in bed.grains:
+        return [MISSING]
+    return [full_day_if(bed, bed.blocked, without_cell(bed.grains, cell))]
+
+
+def day_if_blocked(bed, cell):
+    refused = block_refusal(bed, cell)
+    if len(refused) > 0:
+        return refused
+    return [full_day_if(bed, bed.blocked + [cell], bed.grains)]
+
+
+def area_counts(bed):
+    return counted(area_sizes(bed.width, bed.height, bed.blocked))
+
+
+def day_map(bed):
+    return counted([0 if day == NEVER else day + 1 for day in days_of(bed)])
+
+
+def grain_cells(bed):
+    return counted(sorted(bed.grains))
+
+
+def state_of(bed):
+    return [bed.width, bed.height, len(bed.blocked), len(bed.grains), len(bed.earlier)]
+
+
+WITH_NO_NUMBER = {
+    5: take_back, 7: full_day, 9: last_cells, 12: best_cell, 14: area_counts, 17: day_map, 18: grain_cells,
+    19: state_of,
+}
+WITH_ONE_NUMBER = {
+    1: block_cell, 2: clear_cell, 3: lay_grain, 4: take_grain, 6: day_of_cell, 8: cells_by_day, 10: cells_on_day,
+    11: way_to_cell, 13: fewest_grains, 15: day_without, 16: day_if_blocked,
+}
 
 
 def answer_of(bed, call, numbers):
@@ -152,9 +233,7 @@ def answer_of(bed, call, numbers):
         return [NOT_BEGUN]
     if call in WITH_NO_NUMBER:
         return WITH_NO_NUMBER[call](bed)
-    if call in WITH_ONE_NUMBER:
-        return WITH_ONE_NUMBER[call](bed, numbers[0])
-    raise NotImplementedError("this call is not built yet")
+    return WITH_ONE_NUMBER[call](bed, numbers[0])
 
 
 def answers(calls):

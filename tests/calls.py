@@ -33,7 +33,10 @@ def split(told):
 
 
 def ask(*calls):
-    return split(answers(flat(calls)))
+    numbers = flat(calls)
+    if len(calls) > 100 or len(numbers) > 400:
+        raise AssertionError("no such list is handed in")
+    return split(answers(numbers))
 
 
 def final(*calls):
@@ -42,5 +45,14 @@ def final(*calls):
 
 
 def view(width, height):
-    """Calls that change nothing and tell, of the ten calls, all that can be seen of a bed."""
-    return ["full", "last", ("run", 0), ("run", HIGHEST)] + [("day", cell) for cell in range(width * height)]
+    """Calls that change nothing and tell all that can be seen of a bed."""
+    return ["map", "grains", "state", "full", "last", ("run", 0), ("run", HIGHEST)] + [
+        ("day", cell) for cell in range(width * height)
+    ]
+
+
+def laid_out(width, height, boards, grains):
+    """The calls that make a bed, with its boards and its grains."""
+    return (
+        [("begin", width, height)] + [("block", cell) for cell in boards] + [("grain", cell) for cell in grains]
+    )

@@ -96,6 +96,9 @@ class Back(unittest.TestCase):
         self.assertEqual(final(("begin", 5, 5), *seven, "back", ("run", 0)), [5, 0, 1, 2, 3, 4])
 
     def test_asking_is_not_one_to_take_back(self):
-        for call in (("day", 1), "full", ("run", 1), "last"):
+        for call in (
+            ("day", 1), "full", ("run", 1), "last", ("on_day", 0), ("way", 1), "best", ("fewest", 1), "areas",
+            ("without", 2), ("if_block", 1), "map", "grains", "state",
+        ):
             told = ask(("begin", 3, 1), ("grain", 0), ("grain", 2), call, "back", ("run", 0))
             self.assertEqual(told[4:], [[1], [1, 0]])

@@ -139,12 +139,38 @@ class Refused(unittest.TestCase):
             ("grain", 12): -2, ("grain", 5): -16, ("grain", 6): -17, ("grain", 7): -28,
             ("take", 12): -2, ("take", 5): -2, ("take", 7): -2,
             ("day", 12): -2, ("day", 5): -16, ("begin", 0, 0): -22,
+            ("way", 12): -2, ("way", HIGHEST): -2, ("way", 5): -16,
+            ("fewest", 51): -22, ("fewest", HIGHEST): -22, ("fewest", 0): -33,
+            ("without", 12): -2, ("without", HIGHEST): -2, ("without", 5): -2, ("without", 7): -2,
+            ("if_block", 12): -2, ("if_block", HIGHEST): -2, ("if_block", 5): -17, ("if_block", 0): -16,
         }
         after = view(4, 3) + ["back"] * 9 + view(4, 3)
         expected = ask(*before, *after)[len(before):]
         for call, number in refused.items():
             told = ask(*before, call, *after)
             self.assertEqual(told[len(before)], [number], call)
+            self.assertEqual(told[len(before) + 1:], expected, call)
+
+    def test_a_never_changes_nothing(self):
+        before = [("begin", 5, 1), ("block", 1), ("block", 3), ("grain", 0)]
+        after = view(5, 1) + ["back"] * 4 + view(5, 1)
+        expected = ask(*before, *after)[len(before):]
+        for call in ("full", "last", "best", ("day", 2), ("way", 2), ("without", 0), ("if_block", 2)):
+            told = ask(*before, call, *after)
+            self.assertEqual(told[len(before)], [-33], call)
+            self.assertEqual(told[len(before) + 1:], expected, call)
+
+    def test_asking_changes_nothing(self):
+        before = [("begin", 4, 3), ("block", 6), ("grain", 5), ("block", 9), ("grain", 11), ("grain", 1), "back"]
+        after = view(4, 3) + ["back"] * 5 + view(4, 3)
+        expected = ask(*before, *after)[len(before):]
+        for call in (
+            ("day", 10), "full", ("run", 2), "last", ("on_day", 2), ("way", 10), "best", ("fewest", 2),
+            ("fewest", 50), "areas", ("without", 5), ("without", 11), ("if_block", 0), ("if_block", 10), "map",
+            "grains", "state",
+        ):
+            told = ask(*before, call, *after)
+            self.assertGreaterEqual(told[len(before)][0], 0, call)
             self.assertEqual(told[len(before) + 1:], expected, call)
 
     def test_a_refused_back_changes_nothing(self):

@@ -5,7 +5,8 @@ from tests.calls import HIGHEST, NAMES, ask, final, flat
 
 WITH_TWO = ("begin",)
 WITH_NONE = ("back", "full", "last", "best", "areas", "map", "grains", "state")
-MIXED = [0, 3, 2, 3, 0, 1, 4, 6, 5, 7, 8, 1, 9, 5, 2, 4, 4, 0, 5, 6, 25, 8, HIGHEST]
+ASKED = [10, 1, 11, 5, 12, 13, 1, 14, 15, 0, 16, 1, 17, 18, 19, 10, HIGHEST, 11, HIGHEST, 13, HIGHEST, 15, 25, 16, 6]
+MIXED = [0, 3, 2, 3, 0, 1, 4, 6, 5, 7, 8, 1, 9] + ASKED + [5, 2, 4, 4, 0, 5, 6, 25, 8, HIGHEST] + ASKED
 
 
 def all_but_begin(number):
@@ -26,12 +27,34 @@ class Form(unittest.TestCase):
     def test_calls_and_answers_lie_one_behind_another(self):
         self.assertEqual(answers([0, 3, 1, 3, 0, 6, 2, 7, 8, 1, 9]), [1, 0, 1, 1, 1, 2, 1, 2, 3, 2, 0, 1, 2, 1, 2])
 
-    def test_the_number_of_each_of_the_ten_calls(self):
+    def test_the_number_of_each_of_the_calls_0_to_9(self):
         calls = [0, 2, 1, 1, 1, 2, 1, 3, 0, 4, 0, 5, 6, 1, 7, 8, 0, 9]
         self.assertEqual(
             answers(calls),
             [1, 0, 1, 1, 1, 0, 1, 1, 1, 0, 1, 3, 1, 1, 1, 1, 2, 1, 0, 2, 1, 1],
         )
+
+    def test_the_number_of_each_of_the_calls_10_to_19(self):
+        calls = [0, 3, 1, 3, 0, 10, 1, 11, 2, 12, 13, 1, 14, 15, 0, 16, 2, 17, 18, 19]
+        self.assertEqual(
+            answers(calls),
+            [1, 0, 1, 1] + [2, 1, 1] + [4, 3, 0, 1, 2] + [2, 1, 1] + [2, 1, 1] + [2, 1, 3] + [1, -33] + [1, 1]
+            + [4, 3, 1, 2, 3] + [2, 1, 0] + [5, 3, 1, 0, 1, 1],
+        )
+
+    def test_the_first_number_is_how_many_follow(self):
+        bed = [("begin", 4, 3), ("block", 6), ("block", 9), ("grain", 5), ("grain", 8)]
+        counted = [("run", 2), "last", ("on_day", 1), ("way", 10), ("fewest", 2), "areas", "map", "grains"]
+        for answer in ask(*bed, *counted)[len(bed):]:
+            self.assertEqual(answer[0], len(answer) - 1)
+            self.assertGreater(answer[0], 0)
+
+    def test_best_answers_two_numbers_and_state_five(self):
+        told = ask(("begin", 4, 3), "best", "state", ("grain", 5), "best", "state")
+        self.assertEqual([len(answer) for answer in told], [1, 2, 5, 1, 2, 5])
+
+    def test_counts_of_nothing(self):
+        self.assertEqual(answers([0, 1, 1, 10, 0, 18, 1, 0, 13, 0, 14]), [1, 0, 1, 0, 1, 0, 1, 1, 1, 0, 1, 0])
 
     def test_an_answer_without_cells_is_its_count_alone(self):
         self.assertEqual(answers([0, 1, 1, 8, 0]), [1, 0, 1, 0])
@@ -48,6 +71,10 @@ class Form(unittest.TestCase):
         told = ask(*calls)
         self.assertEqual(len(told), 100)
         self.assertEqual(told[1:], [[1], [25] + list(range(25)), [0]] * 33)
+
+    def test_a_hundred_calls_that_try_most(self):
+        for call, answer in ((("fewest", 2), [-33]), (("fewest", 3), [2, 2, 17]), ("best", [12, 4])):
+            self.assertEqual(ask(("begin", 5, 5), *[call] * 99), [[0]] + [answer] * 99)
 
     def test_all_numbers_are_plain_whole_numbers(self):
         told = answers(list(MIXED))
@@ -73,6 +100,11 @@ class NothingIsKept(unittest.TestCase):
         kept = list(first)
         first.append(7)
         self.assertEqual(answers(list(MIXED)), kept)
+
+    def test_what_was_asked_first_does_not_matter(self):
+        alone = final(("begin", 4, 3), ("block", 6), ("grain", 0), ("fewest", 3))
+        ask(("begin", 4, 3), ("block", 5), ("grain", 1), ("fewest", 3), "best", "areas", "map")
+        self.assertEqual(final(("begin", 4, 3), ("block", 6), ("grain", 0), ("fewest", 3)), alone)
 
     def test_the_object_is_new_each_time(self):
         answers([0, 2, 2, 3, 0])

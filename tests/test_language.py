@@ -30,6 +30,14 @@ BANNED_WORDS = re.compile(
     r"|namedtuple|NamedTuple|TypedDict|TYPE_CHECKING|abstractmethod)\b|dataclass|overload|contextmanager"
 )
 
+BANNED_NAMES = """
+    register mro elements open input version_info with_traceback add_note attrgetter breakpoint builtins compile
+    copyright credits delattr dir eval exec exit gc getattr globals hasattr help id importlib license locals
+    methodcaller os quit setattr super type vars sys chr print __name__
+""".split()
+WALKED_AT_ONCE = ("zip", "enumerate", "reversed", "range", "items", "keys", "values")
+WALKERS = ("list", "tuple", "dict", "sorted", "sum", "any", "all", "enumerate", "zip", "min", "max")
+
 
 def files():
     return sorted(PACKAGE.rglob("*.py"))
@@ -41,6 +49,27 @@ def trees():
 
 def nodes():
     return [(name, node) for name, tree in trees() for node in ast.walk(tree)]
+
+
+def words_of(node):
+    """The names that stand in a node itself."""
+    found = [getattr(node, field, None) for field in ("id", "attr", "arg", "name")]
+    return [word for word in found if isinstance(word, str)]
+
+
+def bound_by(node):
+    """The names that a row of a file's top binds."""
+    if isinstance(node, (ast.FunctionDef, ast.ClassDef)):
+        return [node.name]
+    if isinstance(node, ast.Assign):
+        return [node.targets[0].id]
+    if isinstance(node, ast.ImportFrom):
+        return [part.name for part in node.names]
+    return []
+
+
+def called(node):
+    return getattr(node.func, "id", None) or getattr(node.func, "attr", None)
 
 
 class Files(unittest.TestCase):
@@ -103,14 +132,69 @@ class Code(unittest.TestCase):
             if isinstance(node, ast.Assign):
                 self.assertEqual(len(node.targets), 1, name)
 
+    def test_more_names(self):
+        for name, node in nodes():
+            for word in words_of(node):
+                if not (isinstance(node, ast.FunctionDef) and word == "__init__"):
+                    self.assertRegex(word, r"^[A-Za-z][A-Za-z0-9_]*$", name)
+                self.assertNotIn(word, BANNED_NAMES, name)
+
+    def test_no_local_is_called_like_what_the_file_has_at_its_top(self):
+        for name, tree in trees():
+            top = [word for node in tree.body for word in bound_by(node)]
+            for function in ast.walk(tree):
+                if isinstance(function, ast.FunctionDef):
+                    for node in ast.walk(function):
+                        if isinstance(node, ast.arg):
+                            self.assertNotIn(node.arg, top, name)
+                        if isinstance(node, ast.Name) and isinstance(node.ctx, ast.Store):
+                            self.assertNotIn(node.id, top, name)
+
+    def test_expressions(self):
+        for name, node in nodes():
+            if isinstance(node, ast.ListComp):
+                self.assertEqual(len(node.generators), 1, name)
+                self.assertLessEqual(len(node.generators[0].ifs), 1, name)
+            if isinstance(node, ast.Compare) and isinstance(node.ops[0], (ast.Is, ast.IsNot)):
+                self.assertIsInstance(node.comparators[0], ast.Constant, name)
+                self.assertIn(type(node.comparators[0].value), (type(None), bool), name)
+            # Narrower than the rules: the package needs neither powers nor sets.
+            self.assertNotIsInstance(node, (ast.Pow, ast.Set), name)
+            if isinstance(node, ast.Name):
+                self.assertNotIn(node.id, ("set", "frozenset"), name)
+
+    def test_no_annotations(self):
+        for name, node in nodes():
+            self.assertNotIsInstance(node, ast.AnnAssign, name)
+            if isinstance(node, ast.FunctionDef):
+                self.assertIsNone(node.returns, name)
+            if isinstance(node, ast.arg):
+                self.assertIsNone(node.annotation, name)
+
+    def test_walked_at_once(self):
+        for name, tree in trees():
+            walked = []
+            for node in ast.walk(tree):
+                if isinstance(node, (ast.For, ast.comprehension)):
+                    walked.append(node.iter)
+                if isinstance(node, ast.Call) and called(node) in WALKERS:
+                    walked.append(node.args[0])
+            for node in ast.walk(tree):
+                if isinstance(node, ast.Call) and called(node) in WALKED_AT_ONCE:
+                    self.assertIn(node, walked, name)
+
+    def test_the_top_of_a_file(self):
+        for name, tree in trees():
+            self.assertIsInstance(tree.body[0], ast.Expr, name)
+            for node in tree.body[1:]:
+                self.assertIsInstance(node, (ast.ImportFrom, ast.FunctionDef, ast.ClassDef, ast.Assign), name)
+
+    def test_no_loop_has_an_else(self):
+        for name, node in nodes():
+            if isinstance(node, (ast.For, ast.While)):
+                self.assertEqual(node.orelse, [], name)
+
     def test_a_name_is_bound_once_at_the_top(self):
         for name, tree in trees():
-            bound = []
-            for node in tree.body:
-                if isinstance(node, (ast.FunctionDef, ast.ClassDef)):
-                    bound.append(node.name)
-                elif isinstance(node, ast.Assign):
-                    bound.append(node.targets[0].id)
-                elif isinstance(node, ast.ImportFrom):
-                    bound.extend(part.name for part in node.names)
+            bound = [word for node in tree.body for word in bound_by(node)]
             self.assertEqual(len(bound), len(set(bound)), name)
